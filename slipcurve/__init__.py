@@ -1,0 +1,1 @@
+"""Slipcurve: all small polynomials that fit a row in so many places."""
