@@ -1,6 +1,7 @@
 """What the tests hold the program against: the document's words, tried one by one."""
 
 import itertools
+import math
 import random
 
 HUGE = 10 ** 40 - 1
@@ -58,9 +59,86 @@ def lagrange(p, points):
 def spanned_near(code, row, t):
     """All that fit t places, for codes with too many polynomials to try each (t from k on)."""
     p, k, places = code
-    points = [(x, y) for x, y in zip(places, row) if y is not None]
+    points = heard_of(code, row)
     through = {lagrange(p, list(some)) for some in itertools.combinations(points, k)}
     return sorted(f for f in through if len(plain_fits(code, row, f)) >= t)
+
+
+def heard_of(code, row):
+    """The points (place, entry) of the heard places."""
+    return [(x, y) for x, y in zip(code[2], row) if y is not None]
+
+
+def rank(p, lines):
+    """How many of the lines are free of one another."""
+    lines = [list(line) for line in lines]
+    found = 0
+    for column in range(len(lines[0]) if lines else 0):
+        lead = next((at for at in range(found, len(lines)) if lines[at][column] % p), None)
+        if lead is None:
+            continue
+        lines[found], lines[lead] = lines[lead], lines[found]
+        down = pow(lines[found][column], -1, p)
+        for at in range(found + 1, len(lines)):
+            times = lines[at][column] * down % p
+            if times:
+                lines[at] = [(a - times * b) % p for a, b in zip(lines[at], lines[found])]
+        found += 1
+    return found
+
+
+def plain_moved(p, curve, point):
+    """A curve moved to a point, each number worked out from the powers of x + a and y + b."""
+    a, b = point
+    wide = max(len(line) for line in curve)
+    total = [[0] * wide for line in curve]
+    for j, line in enumerate(curve):
+        for i, number in enumerate(line):
+            for v in range(j + 1):
+                for u in range(i + 1):
+                    part = number * math.comb(i, u) * a ** (i - u) * math.comb(j, v) * b ** (j - v)
+                    total[v][u] += part
+    return tuple(tuple(number % p for number in line) for line in total)
+
+
+def plain_weight(p, curve, point):
+    lines = plain_moved(p, curve, point)
+    return min(i + j for j, line in enumerate(lines) for i, number in enumerate(line) if number)
+
+
+def added(p, left, right):
+    pairs = itertools.zip_longest(left, right, fillvalue=0)
+    return [(a + b) % p for a, b in pairs]
+
+
+def put_in(p, curve, polynomial):
+    """The numbers of a curve with a polynomial in the place of y."""
+    total = []
+    power = [1]
+    for line in curve:
+        total = added(p, total, multiplied(p, line, power))
+        power = multiplied(p, power, polynomial)
+    return total
+
+
+def plain_roots(p, k, curve):
+    return [f for f in itertools.product(range(p), repeat=k) if not any(put_in(p, curve, f))]
+
+
+def curves_multiplied(p, left, right):
+    lines = [[0] for line in range(len(left) + len(right) - 1)]
+    for i, a in enumerate(left):
+        for j, b in enumerate(right):
+            lines[i + j] = added(p, lines[i + j], multiplied(p, a, b))
+    return tuple(tuple(line) for line in lines)
+
+
+def curve_of_roots(p, polynomials):
+    """The product of y less each of the polynomials."""
+    curve = ((1,),)
+    for f in polynomials:
+        curve = curves_multiplied(p, curve, (tuple(-number % p for number in f), (1,)))
+    return curve
 
 
 def some_row(source, code, silence):
@@ -76,6 +154,37 @@ def slipped_row(source, code, polynomial, slips):
     for at in source.sample(range(len(places)), slips):
         row[at] = (row[at] + source.randrange(1, p)) % p
     return row
+
+
+def some_polynomial(source, p, many):
+    return tuple(source.randrange(p) for at in range(many))
+
+
+def some_curve(source, p, lines, numbers):
+    """A curve of at most so many lines of at most so many numbers, some of them 0 here and there."""
+    while True:
+        curve = []
+        for line in range(source.randint(1, lines)):
+            zeros = source.choice((0, 0, 5, 10))
+            wide = source.randint(1, numbers)
+            curve.append(tuple(0 if source.randrange(10) < zeros else source.randrange(p) for at in range(wide)))
+        if any(any(line) for line in curve):
+            return tuple(curve)
+
+
+def trial_rows(code, seed):
+    """Rows of a code: of all kinds of silence, and some near to a polynomial."""
+    p, k, places = code
+    source = seeded(seed)
+    rows = [some_row(source, code, silence) for silence in (0, 0, 2, 5, 8)]
+    rows += [[0] * len(places), [None] * len(places)]
+    for at in (0, len(places) - 1):
+        lone = [None] * len(places)
+        lone[at] = p - 1
+        rows.append(lone)
+    for slips in range(0, len(places), 2):
+        rows.append(slipped_row(source, code, some_polynomial(source, p, k), slips))
+    return rows
 
 
 def small_codes():

@@ -3,8 +3,22 @@
 import unittest
 
 from slipcurve.codes import through, value_at
+from slipcurve.curves import curve_for, moved, size_of, weight_at
+from slipcurve.locators import half, locator_of
 from slipcurve.near import all_near, nearest
+from slipcurve.roots import roots_of
 from slipcurve.rows import fits, is_row
+
+CODES = [(101, 6, tuple(range(18))), (3, 1, (0, 1, 2)), (2, 1, (0, 1)), (7, 2, (0, 7, 8)), (7, 0, (0, 1))]
+CURVES = [
+    tuple((1, 2, 3) * 21 for line in range(31)), ((7,), (14, -7)), ((-1, 9), (8,)), ((0,),), ((), (1,)), ((),), (),
+]
+
+
+def rows_beyond(code):
+    p, k, places = code
+    many = len(places)
+    return [[0] * many, [p] * many, [-1] * many, list(range(many)), [None] * many, [1] * (many + 1), [1] * (many - 1)]
 
 
 class Beyond(unittest.TestCase):
@@ -20,10 +34,9 @@ class Beyond(unittest.TestCase):
         through(7, [])
 
     def test_codes_and_rows(self):
-        codes = [(101, 6, tuple(range(18))), (3, 1, (0, 1, 2)), (2, 1, (0, 1)), (7, 2, (0, 7, 8)), (7, 0, (0, 1))]
-        for code in codes:
+        for code in CODES:
             p, k, places = code
-            for row in ([0] * len(places), [p] * len(places), [-1] * len(places), [0] * (len(places) + 1)):
+            for row in rows_beyond(code):
                 is_row(code, row)
                 fits(code, row, (0,) * k)
                 all_near(code, row, max(k, len(places) - 1))
@@ -32,6 +45,33 @@ class Beyond(unittest.TestCase):
         for row in ([7, 8, 9, 10], [-1, -1, -1, -1], [0, 1, 2, 3, 4], [0, 1, 2]):
             nearest((7, 2, (0, 1, 3, 5)), row)
         nearest((7, 0, (0, 1)), [0, 1])
+
+    def test_locators(self):
+        for code in CODES:
+            for row in rows_beyond(code):
+                locator_of(code, row)
+                half(code, row)
+
+    def test_curves(self):
+        for curve in CURVES:
+            for k in (1, 2, 6):
+                size_of(k, curve)
+            for p in (3, 7, 101):
+                for point in [(0, 0), (p, p + 1), (-1, 5)]:
+                    moved(p, curve, point)
+                    weight_at(p, curve, point)
+
+    def test_curves_for_rows(self):
+        for code in [(101, 6, tuple(range(12))), (3, 2, (0, 1, 2)), (7, 2, (0, 7, 8))]:
+            for row in rows_beyond(code):
+                for m in (-2, -1, 0, 1, 3, 5):
+                    curve_for(code, row, m)
+
+    def test_roots(self):
+        for curve in CURVES:
+            for p in (2, 3, 7, 101):
+                for k in (0, 1, 6):
+                    roots_of(p, k, curve)
 
 
 if __name__ == "__main__":

@@ -1,33 +1,13 @@
 import unittest
 
 from plain import (
-    HUGE, PRIMES, plain_fits, plain_near, plain_nearest, seeded, slipped_row, small_codes, some_row,
-    spanned_near,
+    HUGE, PRIMES, heard_of, plain_fits, plain_near, plain_nearest, seeded, slipped_row, small_codes, some_row,
+    spanned_near, trial_rows,
 )
 from slipcurve.errors import TooFew
 from slipcurve.near import all_near, nearest
 
 LARGE = (97, 5, tuple(range(80, 64, -1)))
-
-
-def heard_of(row):
-    return len([entry for entry in row if entry is not None])
-
-
-def trial_rows(code, seed):
-    """Rows of a code: of all kinds of silence, and some near to a polynomial."""
-    p, k, places = code
-    source = seeded(seed)
-    rows = [some_row(source, code, silence) for silence in (0, 0, 2, 5, 8)]
-    rows += [[0] * len(places), [None] * len(places)]
-    for at in (0, len(places) - 1):
-        lone = [None] * len(places)
-        lone[at] = p - 1
-        rows.append(lone)
-    for slips in range(0, len(places), 2):
-        polynomial = tuple(source.randrange(p) for i in range(k))
-        rows.append(slipped_row(source, code, polynomial, slips))
-    return rows
 
 
 class AllNear(unittest.TestCase):
@@ -140,7 +120,7 @@ class Nearest(unittest.TestCase):
     def test_against_all_polynomials(self):
         for code in small_codes():
             for row in trial_rows(code, 13):
-                if heard_of(row) >= code[1]:
+                if len(heard_of(code, row)) >= code[1]:
                     self.assert_nearest(code, row, plain_nearest(code, row))
                 else:
                     with self.assertRaises(TooFew):
