@@ -76,15 +76,21 @@ def times_root(p, polynomial, root):
     return [(high - root * low) % p for high, low in zip(raised, kept)]
 
 
+def bent(p, polynomial, vanishing, point):
+    """Tell a polynomial (a list) with so much of vanishing added that it goes through a point."""
+    x, y = point
+    missing = y - value_at(p, polynomial, x)
+    factor = missing * inverse(p, value_at(p, vanishing, x)) % p
+    added = [(number + factor * other) % p for number, other in zip(polynomial, vanishing)]
+    return added + polynomial[len(added):]
+
+
 def through(p, points):
     """Tell the polynomial of as many numbers as there are points that goes through them."""
-    curve = [0] * len(points)
+    polynomial = [0] * len(points)
     # A multiple of vanishing moves the value at the next point and at none of the earlier ones.
     vanishing = [1]
     for x, y in points:
-        missing = y - value_at(p, curve, x)
-        factor = missing * inverse(p, value_at(p, vanishing, x)) % p
-        for power, number in enumerate(vanishing):
-            curve[power] = (curve[power] + factor * number) % p
+        polynomial = bent(p, polynomial, vanishing, (x, y))
         vanishing = times_root(p, vanishing, x)
-    return tuple(curve)
+    return tuple(polynomial)

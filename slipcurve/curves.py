@@ -77,9 +77,14 @@ def least_curve(p, k, points):
     return (size, tuple(lines))
 
 
+def check_curves(k):
+    """Refuse a k for which there are no curves."""
+    if k < 2:
+        raise NoCurve("only polynomials of two numbers or more have curves")
+
+
 def curve_for(code, row, m):
     """Tell (size, curve) of a curve of the least size that has the weight m at each heard place's point."""
     p, k, places = code
-    if k < 2:
-        raise NoCurve("only polynomials of two numbers or more have curves")
+    check_curves(k)
     return least_curve(p, k, [(place, entry, m) for place, entry in heard_points(code, row)])

@@ -106,6 +106,73 @@ def plain_weight(p, curve, point):
     return min(i + j for j, line in enumerate(lines) for i, number in enumerate(line) if number)
 
 
+def plain_size(k, curve):
+    return max(i + (k - 1) * j for j, line in enumerate(curve) for i, number in enumerate(line) if number)
+
+
+def terms_up_to(k, size):
+    return [(i, j) for j in range(size + 1) for i in range(size + 1) if i + (k - 1) * j <= size]
+
+
+def weighted(points, m):
+    """The points, each with the weight m behind it."""
+    return [(a, b, m) for a, b in points]
+
+
+def asked_of(p, terms, points):
+    """A line for each number that must come to 0 at the weighted points, with what each term brings to it."""
+    lines = []
+    for a, b, m in points:
+        for u, v in itertools.product(range(m), repeat=2):
+            if u + v < m:
+                lines.append([
+                    math.comb(i, u) * pow(a, max(i - u, 0), p) * math.comb(j, v) * pow(b, max(j - v, 0), p) % p
+                    for i, j in terms
+                ])
+    return lines
+
+
+def none_of_size(p, k, points, size):
+    """Whether no curve of at most a size has its weight at each of the weighted points."""
+    if size < 0:
+        return True
+    terms = terms_up_to(k, size)
+    lines = asked_of(p, terms, points)
+    return len(lines) >= len(terms) and rank(p, lines) == len(terms)
+
+
+def has_weights(p, curve, points):
+    """Whether a curve has its weight, or more, at each of the weighted points."""
+    terms = [(i, j) for j, line in enumerate(curve) for i in range(len(line))]
+    numbers = [number for line in curve for number in line]
+    return not any(sum(map(int.__mul__, line, numbers)) % p for line in asked_of(p, terms, points))
+
+
+def assert_curve(test, p, curve):
+    """What is told is a curve: of so many lines of so many numbers, not all 0, and tuples all through."""
+    test.assertIs(type(curve), tuple)
+    test.assertIn(len(curve), range(1, 31))
+    for line in curve:
+        test.assertIs(type(line), tuple)
+        test.assertIn(len(line), range(1, 61))
+        for number in line:
+            test.assertIs(type(number), int)
+            test.assertIn(number, range(p))
+    test.assertTrue(any(any(line) for line in curve))
+
+
+def assert_polynomials(test, code, polynomials):
+    """What is told is a list of unlike polynomials of the code, rising."""
+    test.assertIs(type(polynomials), list)
+    test.assertEqual(polynomials, sorted(set(polynomials)))
+    for polynomial in polynomials:
+        test.assertIs(type(polynomial), tuple)
+        test.assertEqual(len(polynomial), code[1])
+        for number in polynomial:
+            test.assertIs(type(number), int)
+            test.assertIn(number, range(code[0]))
+
+
 def added(p, left, right):
     pairs = itertools.zip_longest(left, right, fillvalue=0)
     return [(a + b) % p for a, b in pairs]

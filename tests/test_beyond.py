@@ -4,8 +4,13 @@ import unittest
 
 from slipcurve.codes import through, value_at
 from slipcurve.curves import curve_for, moved, size_of, weight_at
+from slipcurve.errors import NoCurve, NoPaper, TooFew
+from slipcurve.guesses import curve_by, heavy, weight_of
 from slipcurve.locators import half, locator_of
+from slipcurve.many import due_of, many_near
 from slipcurve.near import all_near, nearest
+from slipcurve.papers import near_by, paper_holds, paper_of
+from slipcurve.reaches import bound, reach, weight_for
 from slipcurve.roots import roots_of
 from slipcurve.rows import fits, is_row
 
@@ -72,6 +77,57 @@ class Beyond(unittest.TestCase):
             for p in (2, 3, 7, 101):
                 for k in (0, 1, 6):
                     roots_of(p, k, curve)
+
+    def test_reaches(self):
+        for n in (-1, 0, 1, 98, 120):
+            for k in (-1, 0, 1, 2, 6, 9):
+                for m in (-2, -1, 0, 1, 61, 80):
+                    bound(n, k, m)
+                    reach(n, k, m)
+                for t in (-1, 0, 3, 200):
+                    weight_for(n, k, t)
+
+    def test_papers(self):
+        for code in [(101, 6, tuple(range(12))), (3, 2, (0, 1, 2)), (7, 2, (0, 7, 8))]:
+            for row in rows_beyond(code):
+                for t in (-1, 0, 2, 17):
+                    try:
+                        told = paper_of(code, row, t)
+                        near_by(code, row, t, told)
+                    except NoPaper:
+                        pass
+                for curve in CURVES:
+                    paper_holds(code, row, 17, (1, curve))
+                    paper_holds(code, row, 0, (1, curve))
+
+    def test_no_curve_with_k_below_1(self):
+        for ask in [
+            lambda: curve_for((7, 0, (0, 1)), [0, 1], 1), lambda: paper_of((7, 0, (0, 1)), [0, 1], 1),
+            lambda: curve_by((7, 0, (0, 1)), [(0, 1, 1)]),
+        ]:
+            self.assertRaises(NoCurve, ask)
+
+    def test_guesses(self):
+        several = [
+            [], [(0, 1, 0), (1, 2, -1)], [(0, 1, 10), (0, 1, 2), (1, 1, 12)], [(2, 7, 1), (0, -1, 2), (1, 300, 3)],
+            [(-1, 1, 3), (18, 1, 2), (40, 0, 1)], [(at % 2, at, 1) for at in range(33)],
+            [(at, 1, 4) for at in range(17)],
+        ]
+        for code in CODES:
+            for guesses in several:
+                weight_of(code, guesses, (1,) * code[1])
+                heavy(code, guesses, 100)
+                if code[1] > 1:
+                    curve_by(code, guesses)
+
+    def test_rows_that_have_many(self):
+        for code in CODES:
+            for t in range(code[1], min(len(code[2]), 9) + 1):
+                due_of(code, t)
+                many_near(code, t)
+        for ask in (due_of, many_near):
+            self.assertRaises(TooFew, ask, (7, 3, (0, 1)), 3)
+            self.assertRaises(TooFew, ask, (7, 3, (0, 1)), 2)
 
 
 if __name__ == "__main__":

@@ -1,10 +1,10 @@
 import itertools
-import math
 import unittest
 
 from plain import (
-    PRIMES, curve_of_roots, curves_multiplied, heard_of, plain_moved, plain_weight, rank, seeded, slipped_row,
-    small_codes, some_curve, some_polynomial, some_row, trial_rows,
+    PRIMES, asked_of, assert_curve, curve_of_roots, curves_multiplied, heard_of, none_of_size, plain_moved, plain_size,
+    plain_weight, rank, seeded, slipped_row, small_codes, some_curve, some_polynomial, some_row, terms_up_to,
+    trial_rows, weighted,
 )
 from slipcurve.curves import curve_for, moved, size_of, weight_at
 from slipcurve.errors import NoCurve, SlipError
@@ -20,34 +20,6 @@ def value_of(curve, x, y):
 def widened(curve):
     wide = max(len(line) for line in curve)
     return tuple(line + (0,) * (wide - len(line)) for line in curve)
-
-
-def plain_size(k, curve):
-    return max(i + (k - 1) * j for j, line in enumerate(curve) for i, number in enumerate(line) if number)
-
-
-def terms_up_to(k, size):
-    return [(i, j) for j in range(size + 1) for i in range(size + 1) if i + (k - 1) * j <= size]
-
-
-def asked_of(p, terms, points, m):
-    """A line for each number that must come to 0, with what each term brings to it."""
-    lines = []
-    for (a, b), u, v in itertools.product(points, range(m), range(m)):
-        if u + v < m:
-            lines.append([
-                math.comb(i, u) * pow(a, max(i - u, 0), p) * math.comb(j, v) * pow(b, max(j - v, 0), p) % p
-                for i, j in terms
-            ])
-    return lines
-
-
-def none_of_size(code, row, m, size):
-    """Whether no curve of at most a size (not below 0) has the weight m at each heard place."""
-    p, k, places = code
-    terms = terms_up_to(k, size)
-    lines = asked_of(p, terms, heard_of(code, row), m)
-    return len(lines) >= len(terms) and rank(p, lines) == len(terms)
 
 
 class Sizes(unittest.TestCase):
@@ -197,15 +169,7 @@ class CurvesForRows(unittest.TestCase):
         self.assertIs(type(pair), tuple)
         size, curve = pair
         self.assertIs(type(size), int)
-        self.assertIs(type(curve), tuple)
-        self.assertIn(len(curve), range(1, 31))
-        for line in curve:
-            self.assertIs(type(line), tuple)
-            self.assertIn(len(line), range(1, 61))
-            for number in line:
-                self.assertIs(type(number), int)
-                self.assertIn(number, range(p))
-        self.assertTrue(any(any(line) for line in curve))
+        assert_curve(self, p, curve)
         self.assertEqual(size, plain_size(k, curve))
         for point in heard_of(code, row):
             self.assertGreaterEqual(plain_weight(p, curve, point), m, (code, row, m))
@@ -213,7 +177,8 @@ class CurvesForRows(unittest.TestCase):
 
     def assert_least(self, code, row, m):
         size = self.told(code, row, m)[0]
-        self.assertTrue(size == 0 or none_of_size(code, row, m, size - 1), (code, row, m))
+        points = weighted(heard_of(code, row), m)
+        self.assertTrue(none_of_size(code[0], code[1], points, size - 1), (code, row, m))
 
     def test_by_hand(self):
         code = (7, 2, (0, 1, 3, 5))
@@ -246,7 +211,7 @@ class CurvesForRows(unittest.TestCase):
         terms = terms_up_to(k, size)
         points = heard_of(code, row)
         if len(terms) > 6:
-            lines = asked_of(p, terms, points, m)
+            lines = asked_of(p, terms, weighted(points, m))
             return rank(p, lines) < len(terms)
         for numbers in itertools.product(range(p), repeat=len(terms)):
             if any(numbers):

@@ -1,8 +1,8 @@
 import unittest
 
 from plain import (
-    HUGE, PRIMES, heard_of, plain_fits, plain_near, plain_nearest, seeded, slipped_row, small_codes, some_row,
-    spanned_near, trial_rows,
+    HUGE, PRIMES, assert_polynomials, heard_of, plain_fits, plain_near, plain_nearest, seeded, slipped_row, small_codes,
+    some_row, spanned_near, trial_rows,
 )
 from slipcurve.errors import TooFew
 from slipcurve.near import all_near, nearest
@@ -16,11 +16,7 @@ class AllNear(unittest.TestCase):
         told = all_near(code, row, t)
         self.assertEqual(told, expected, (code, row, t))
         self.assertEqual(row, before)
-        self.assertIs(type(told), list)
-        self.assertEqual(told, sorted(set(told)))
-        for polynomial in told:
-            self.assertIs(type(polynomial), tuple)
-            self.assertEqual(len(polynomial), code[1])
+        assert_polynomials(self, code, told)
 
     def test_by_hand(self):
         code = (7, 2, (0, 1, 3, 5))
