@@ -1,30 +1,14 @@
 """Locators of a row, and the polynomial that they tell where at most half has slipped."""
 
 from slipcurve.codes import through, value_at
-from slipcurve.relations import first_sum
+from slipcurve.joint import joint_locator
 from slipcurve.rows import fits, heard_points
-
-
-def locator_terms(k, many):
-    """Tell the terms of right (i, 0) and of left (i, 1), those that a smaller e lets go first."""
-    # The lone term of left leads: where less than k places are heard, terms of right alone would do.
-    terms = [(0, 1)] + [(i, 0) for i in range(k)]
-    for e in range(1, many):
-        terms += [(e, 1), (k + e - 1, 0)]
-    return terms[:many]
 
 
 def locator_of(code, row):
     """Tell a locator (e, left, right) of a row with the least e."""
-    p, k, places = code
-    points = [(place, entry, 1) for place, entry in heard_points(code, row)]
-    # One more term than there are points: some sum of them is 0 at all points.
-    found = first_sum(p, locator_terms(k, len(points) + 1), points)
-    e = max([i if j == 1 else i - k + 1 for i, j in found])
-    # The sum is right less left times y, so the numbers of left have the other sign.
-    left = tuple([-found.get((i, 1), 0) % p for i in range(e + 1)])
-    right = tuple([found.get((i, 0), 0) for i in range(k + e)])
-    return (e, left, right)
+    e, left, rights = joint_locator(code, [row])
+    return (e, left, rights[0])
 
 
 def half(code, row):

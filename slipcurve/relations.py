@@ -40,9 +40,9 @@ def without(p, vector, times, other):
 
 
 def first_relation(p, vectors):
-    """Tell the numbers, the last one 1, by which the least many first vectors add up to nought.
+    """Tell the numbers, the last one 1, by which the least many first vectors add up to nought, or None.
 
-    There must be more vectors than each of them has numbers, so that some add up to it.
+    Where there are more vectors than each of them has numbers some always do.
     """
     length = len(vectors[0])
     cleared = []
@@ -57,11 +57,13 @@ def first_relation(p, vectors):
             return whole[length:length + count + 1]
         factor = inverse(p, whole[leads[0]])
         cleared.append((leads[0], [number * factor % p for number in whole]))
+    return None
 
 
 def first_sum(p, terms, points):
     """Tell the least many first terms whose sum, each times its number, has its weight at all points.
 
+    There must be more terms than numbers that must come to 0, so that some do it.
     Told is a dict of the numbers by their terms, in the order of the terms; the last number is 1.
     """
     relation = first_relation(p, vectors_of(p, terms, points))

@@ -1,5 +1,6 @@
 """What the tests hold the program against: the document's words, tried one by one."""
 
+import functools
 import itertools
 import math
 import random
@@ -56,12 +57,19 @@ def lagrange(p, points):
     return tuple(total)
 
 
-def spanned_near(code, row, t):
-    """All that fit t places, for codes with too many polynomials to try each (t from k on)."""
+@functools.lru_cache(maxsize=16)
+def spanned_counts(code, row):
+    """For each polynomial through k heard places of a row (a tuple) how many places it fits."""
     p, k, places = code
     points = heard_of(code, row)
     through = {lagrange(p, list(some)) for some in itertools.combinations(points, k)}
-    return sorted(f for f in through if len(plain_fits(code, row, f)) >= t)
+    return {f: len(plain_fits(code, row, f)) for f in through}
+
+
+def spanned_near(code, row, t):
+    """All that fit t places, for codes with too many polynomials to try each (t from k on)."""
+    counts = spanned_counts(code, tuple(row))
+    return sorted(f for f in counts if counts[f] >= t)
 
 
 def heard_of(code, row):
@@ -161,16 +169,53 @@ def assert_curve(test, p, curve):
     test.assertTrue(any(any(line) for line in curve))
 
 
+def assert_numbers(test, p, numbers, many):
+    """What is told is a polynomial of so many numbers."""
+    test.assertIs(type(numbers), tuple)
+    test.assertEqual(len(numbers), many)
+    for number in numbers:
+        test.assertIs(type(number), int)
+        test.assertIn(number, range(p))
+
+
 def assert_polynomials(test, code, polynomials):
     """What is told is a list of unlike polynomials of the code, rising."""
     test.assertIs(type(polynomials), list)
     test.assertEqual(polynomials, sorted(set(polynomials)))
     for polynomial in polynomials:
-        test.assertIs(type(polynomial), tuple)
-        test.assertEqual(len(polynomial), code[1])
-        for number in polynomial:
-            test.assertIs(type(number), int)
-            test.assertIn(number, range(code[0]))
+        assert_numbers(test, code[0], polynomial, code[1])
+
+
+def has_right(code, points, e, left):
+    """Whether some right of k + e numbers goes with a left."""
+    p, k, places = code
+    wanted = [(x, plain_value(p, left, x) * y % p) for x, y in points]
+    return len(wanted) <= k + e or not any(lagrange(p, wanted)[k + e:])
+
+
+def tried_least(code, rows):
+    """The least e of which some left that is not all 0 has a right for each row, every left tried."""
+    parts = [heard_of(code, row) for row in rows]
+    for e in itertools.count():
+        for left in itertools.product(range(code[0]), repeat=e + 1):
+            # Of all multiples of a left the one whose first number that is not 0 is 1 will do.
+            if next((number for number in left if number), 0) == 1:
+                if all(has_right(code, points, e, left) for points in parts):
+                    return e
+
+
+def free_of_locators(code, rows, e):
+    """Whether rows have no locator with this e: all that comes to 0 at the heard places has a left of 0 alone."""
+    p, k, places = code
+    rights = []
+    lines = []
+    for number, row in enumerate(rows):
+        for x, y in heard_of(code, row):
+            powers = [pow(x, i, p) for i in range(k + e)]
+            ahead, behind = [0] * (number * (k + e)), [0] * ((len(rows) - 1 - number) * (k + e))
+            rights.append(ahead + powers + behind)
+            lines.append(rights[-1] + [-y * pow(x, i, p) for i in range(e + 1)])
+    return rank(p, lines) == rank(p, rights) + e + 1
 
 
 def added(p, left, right):

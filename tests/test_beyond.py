@@ -4,8 +4,11 @@ import unittest
 
 from slipcurve.codes import through, value_at
 from slipcurve.curves import curve_for, moved, size_of, weight_at
-from slipcurve.errors import NoCurve, NoPaper, TooFew
+from slipcurve.desk import Desk
+from slipcurve.errors import NoCurve, NoPaper, NoRow, NoText, TooFew
 from slipcurve.guesses import curve_by, heavy, weight_of
+from slipcurve.joint import joint_locator, joint_near
+from slipcurve.listeners import Listener
 from slipcurve.locators import half, locator_of
 from slipcurve.many import due_of, many_near
 from slipcurve.near import all_near, nearest
@@ -13,6 +16,7 @@ from slipcurve.papers import near_by, paper_holds, paper_of
 from slipcurve.reaches import bound, reach, weight_for
 from slipcurve.roots import roots_of
 from slipcurve.rows import fits, is_row
+from slipcurve.texts import code_text, polynomial_text, read_code, row_text
 
 CODES = [(101, 6, tuple(range(18))), (3, 1, (0, 1, 2)), (2, 1, (0, 1)), (7, 2, (0, 7, 8)), (7, 0, (0, 1))]
 CURVES = [
@@ -128,6 +132,38 @@ class Beyond(unittest.TestCase):
         for ask in (due_of, many_near):
             self.assertRaises(TooFew, ask, (7, 3, (0, 1)), 3)
             self.assertRaises(TooFew, ask, (7, 3, (0, 1)), 2)
+
+    def test_rows_together(self):
+        for code in CODES:
+            rows = rows_beyond(code)
+            for some in [[], rows, rows[:5], rows[-2:], [rows[1]] * 6]:
+                joint_near(code, some, max(code[1], len(code[2]) - 1))
+                joint_locator(code, some)
+
+    def test_listeners(self):
+        for code in CODES:
+            for slips in (-2, -1, 0, 1, 9, 20):
+                listener = Listener(code, slips)
+                for number in range(len(code[2])):
+                    listener.hear(number, 1)
+                listener.forget(0)
+                listener.back()
+                listener.again()
+                listener.row()
+                if slips < 9:
+                    listener.can_be()
+                    listener.sure(1)
+
+    def test_texts(self):
+        for code in CODES:
+            self.assertRaises(NoText, read_code, code_text(code))
+            for row in rows_beyond(code):
+                row_text(row)
+        for polynomial in [(), (-1,), (7, 300), (0,) * 50]:
+            polynomial_text(polynomial)
+        self.assertRaises(NoText, read_code, "7 2 : " + "1 " * 4000)
+        self.assertRaises(NoRow, Desk().say, "hear " + "1" * 9000)
+        self.assertRaises(NoText, Desk().say, "code " + "1" * 9000)
 
 
 if __name__ == "__main__":

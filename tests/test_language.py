@@ -1,6 +1,7 @@
 """The rules of the language subset that can be checked by reading the files."""
 
 import ast
+import builtins
 import re
 import unittest
 from pathlib import Path
@@ -22,6 +23,12 @@ BARRED_NODES = (
     ast.GeneratorExp, ast.NamedExpr, ast.Div, ast.Import,
 )
 
+METHODS = set(
+    "append clear copy count endswith extend find get index insert isalnum isalpha isdigit islower isspace isupper "
+    "items join keys ljust lower lstrip partition pop remove replace reverse rfind rjust rpartition rsplit rstrip "
+    "setdefault split splitlines startswith strip update upper values zfill bit_length isascii".split()
+)
+
 
 def package_files():
     return sorted(PACKAGE.glob("*.py"))
@@ -38,6 +45,33 @@ def bound_names(tree):
             names.add(node.arg)
         if isinstance(node, ast.ImportFrom):
             names.update(alias.asname or alias.name for alias in node.names)
+    return names
+
+
+def methods_of(tree):
+    return {
+        part.name for node in ast.walk(tree) if isinstance(node, ast.ClassDef)
+        for part in node.body if isinstance(part, ast.FunctionDef)
+    }
+
+
+def own_attributes(tree):
+    return {
+        node.attr for node in ast.walk(tree)
+        if isinstance(node, ast.Attribute) and isinstance(node.ctx, ast.Store)
+    }
+
+
+def local_names(tree):
+    """The parameters and assigned names of all functions of a file."""
+    names = set()
+    for node in ast.walk(tree):
+        if isinstance(node, (ast.FunctionDef, ast.Lambda)):
+            for part in ast.walk(node):
+                if isinstance(part, ast.arg):
+                    names.add(part.arg)
+                if isinstance(part, ast.Name) and isinstance(part.ctx, ast.Store):
+                    names.add(part.id)
     return names
 
 
@@ -87,6 +121,46 @@ class Language(unittest.TestCase):
             for node in ast.walk(tree):
                 if isinstance(node, ast.Name) and isinstance(node.ctx, ast.Load):
                     self.assertIn(node.id, bound | BUILTINS, (path.name, node.lineno))
+
+    def test_local_names_mean_nothing_else(self):
+        for path in package_files():
+            tree = ast.parse(path.read_text())
+            taken = set(dir(builtins))
+            for node in tree.body:
+                if isinstance(node, ast.ImportFrom):
+                    taken.update(alias.name for alias in node.names)
+                if isinstance(node, (ast.ClassDef, ast.FunctionDef)):
+                    taken.add(node.name)
+            self.assertEqual(local_names(tree) & taken, set(), path.name)
+
+    def test_methods_and_attributes(self):
+        trees = {path.name: ast.parse(path.read_text()) for path in package_files()}
+        methods = set().union(*[methods_of(tree) for tree in trees.values()])
+        attributes = set().union(*[own_attributes(tree) for tree in trees.values()])
+        self.assertEqual(methods & attributes, set())
+        kinds = (str, int, list, dict, set, bytes, tuple)
+        for name in (methods | attributes) - {"__init__"}:
+            self.assertFalse(any(hasattr(kind, name) for kind in kinds), name)
+        for name, tree in trees.items():
+            called = [node.func for node in ast.walk(tree) if isinstance(node, ast.Call)]
+            for func in called:
+                if isinstance(func, ast.Attribute):
+                    self.assertIn(func.attr, METHODS | methods, (name, func.lineno))
+            for node in ast.walk(tree):
+                if isinstance(node, ast.Attribute) and node not in called:
+                    self.assertIn(node.attr, attributes, (name, node.lineno))
+
+    def test_no_file_imports_in_a_ring(self):
+        imports = {
+            path.stem: [
+                node.module.split(".")[1] for node in ast.parse(path.read_text()).body if isinstance(node, ast.ImportFrom)
+            ]
+            for path in package_files()
+        }
+        while imports:
+            free = [name for name, needs in imports.items() if not any(need in imports for need in needs)]
+            self.assertTrue(free, imports)
+            imports = {name: needs for name, needs in imports.items() if name not in free}
 
 
 if __name__ == "__main__":

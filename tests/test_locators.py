@@ -2,39 +2,12 @@ import itertools
 import unittest
 
 from plain import (
-    PRIMES, heard_of, lagrange, multiplied, plain_fits, plain_near, plain_value, rank, seeded, slipped_row,
-    small_codes, some_polynomial, some_row, spanned_near, trial_rows,
+    PRIMES, assert_numbers, free_of_locators, heard_of, multiplied, plain_fits, plain_near, plain_value, seeded,
+    slipped_row, small_codes, some_polynomial, some_row, spanned_near, trial_rows, tried_least,
 )
 from slipcurve.locators import half, locator_of
 
 LARGE = (97, 5, tuple(range(80, 64, -1)))
-
-
-def has_right(code, points, e, left):
-    """Whether some right of k + e numbers goes with a left."""
-    p, k, places = code
-    wanted = [(x, plain_value(p, left, x) * y % p) for x, y in points]
-    return len(wanted) <= k + e or not any(lagrange(p, wanted)[k + e:])
-
-
-def tried_least(code, row):
-    """The least e of which some left that is not all 0 has a right, every left tried."""
-    points = heard_of(code, row)
-    for e in itertools.count():
-        for left in itertools.product(range(code[0]), repeat=e + 1):
-            # Of all multiples of a left the one whose first number that is not 0 is 1 will do.
-            if next((number for number in left if number), 0) == 1 and has_right(code, points, e, left):
-                return e
-
-
-def free_of_locators(code, row, e):
-    """Whether a row with more than k + e heard places has no locator with this e."""
-    p, k, places = code
-    lines = []
-    for x, y in heard_of(code, row):
-        powers = [pow(x, i, p) for i in range(k + e)]
-        lines.append(powers + [-y * power for power in powers[:e + 1]])
-    return rank(p, lines) == k + 2 * e + 1
 
 
 def middling(code, row):
@@ -53,12 +26,8 @@ class Told(unittest.TestCase):
         e, left, right = locator
         self.assertIs(type(e), int)
         self.assertGreaterEqual(e, 0)
-        for numbers, many in ((left, e + 1), (right, k + e)):
-            self.assertIs(type(numbers), tuple)
-            self.assertEqual(len(numbers), many)
-            for number in numbers:
-                self.assertIs(type(number), int)
-                self.assertIn(number, range(p))
+        assert_numbers(self, p, left, e + 1)
+        assert_numbers(self, p, right, k + e)
         self.assertTrue(any(left), (code, row))
         for x, y in heard_of(code, row):
             self.assertEqual(plain_value(p, right, x), plain_value(p, left, x) * y % p, (code, row))
@@ -95,12 +64,12 @@ class Locators(Told):
         for code in small_codes():
             if code[0] <= 7:
                 for row in trial_rows(code, 30):
-                    self.assertEqual(self.told(code, row)[0], tried_least(code, row), (code, row))
+                    self.assertEqual(self.told(code, row)[0], tried_least(code, [row]), (code, row))
 
     def test_every_row_of_a_small_code(self):
         for code in [(5, 1, (0, 2, 3)), (5, 2, (4, 1, 2, 0)), (5, 3, (1, 2, 3))]:
             for row in itertools.product([None, 0, 1, 2, 4], repeat=len(code[2])):
-                self.assertEqual(self.told(code, list(row))[0], tried_least(code, row), (code, row))
+                self.assertEqual(self.told(code, list(row))[0], tried_least(code, [row]), (code, row))
 
     def test_the_least_e_of_large_codes(self):
         source = seeded(31)
@@ -113,7 +82,7 @@ class Locators(Told):
                     e = self.told(code, row)[0]
                     heard = len(heard_of(code, row))
                     self.assertLessEqual(e, max(0, (heard - k + 1) // 2))
-                    self.assertTrue(e == 0 or free_of_locators(code, row, e - 1), (code, row))
+                    self.assertTrue(e == 0 or free_of_locators(code, [row], e - 1), (code, row))
 
     def test_nothing_or_little_heard(self):
         source = seeded(32)
