@@ -121,7 +121,8 @@ class Desk:
             self.listener = Listener(read_code(rest), self.listener.slips)
             return "ok"
         words = rest.split(" ") if blank == " " else []
-        answer = ANSWERS.get((word, len(words)))
-        if answer is None or not all([is_written(one) for one in words]):
+        asked = (word, len(words))
+        if asked not in ANSWERS or not all([is_written(one) for one in words]):
             raise NoRow("none of the rows that a desk is told")
+        answer = ANSWERS[asked]
         return answer(self, [int(one) for one in words])
